@@ -1,0 +1,1 @@
+"""Underthree: what a queue comes to, with the fewest joins."""
