@@ -106,7 +106,8 @@ def check_parameters(case, function, good, bad):
             if at + 1 < len(names):
                 together = dict(alone)
                 for later in names[at + 1:]:
-                    together[later] = bad[later][0]
+                    # A thing that is only looked at has no wrong values.
+                    together[later] = bad[later][0] if bad[later] else None
                 check_unusable(case, name, -1, function, *together.values())
 
 

@@ -1,0 +1,74 @@
+"""The interface of stages 1 to 7: each name in its file, with its parameters, defined there."""
+
+import importlib
+import inspect
+import unittest
+
+FUNCTIONS = {
+    "kinds": ("is_integer(thing)", "is_number(thing)", "is_quotient(thing)", "is_stretch(thing)", "is_lot(thing)",
+              "is_asks(thing)", "is_queue(thing)"),
+    "quotients": ("quotient_of(top, bottom)", "plus(one, other)", "minus(one, other)", "times(one, other)",
+                  "less(one, other)"),
+    "operations": ("is_operation(thing)", "is_value(operation, thing)", "commutes(operation)", "keeps_same(operation)",
+                   "join_two(operation, one, other)", "idle_pair(operation)"),
+    "folds": ("is_feed(operation, thing)", "fold(operation, feed)", "fold_of(operation, feed, stretch)",
+              "joined_times(operation, value, many)"),
+    "feeds": ("span_feed(size)", "count_feed(size)", "bit_feed(size)"),
+    "opertexts": ("operation_line(operation)", "value_line(operation, value)", "read_operation(text)",
+                  "read_value(operation, text)"),
+    "askchecker": ("lets_asks(thing)",),
+    "askrows": ("asks_of(*stretches)", "order_fault(asks)", "wide_asks(asks)", "covered(asks)", "clubs_of(asks)",
+                "longest_end(asks)"),
+    "askchanges": ("mirrored(asks, size)", "stretched(asks, counts)", "merged(asks, other)", "moved(asks, many)",
+                   "kept_within(asks, low, high)", "without_ask(asks, at)"),
+    "histories": ("lets_history(thing)", "is_history(thing)", "asks_by(history)", "history_by(queue)"),
+    "steadies": ("steady_asks(width, hop, many)", "calendar_asks(widths)", "timed_asks(times, length, moments)"),
+    "asktexts": ("asks_line(asks)", "history_line(history)", "read_asks(text)", "read_history(text)"),
+    "plankinds": ("is_plan(thing)", "lets_plan(thing)"),
+    "planvalues": ("spans_of(plan)", "lots_of(plan)", "counts_of(plan)"),
+    "planruns": ("run_plan(plan, operation, feed)", "run_names(plan, operation, feed)"),
+    "grades": ("suits(plan, asks)", "right_all(plan, asks)", "right_commuting(plan, asks)", "right_same(plan, asks)",
+               "grade_of(plan, asks)", "right_idle(plan, asks, operation)"),
+    "wrongs": ("wrong_at(plan, asks, grade)", "parting_of(plan, asks, grade)", "lets_parting(plan, asks, thing)"),
+    "planchanges": ("used_joins(plan)", "trimmed(plan)", "tidied(plan)", "mirrored_plan(plan)",
+                    "beside_plan(plan, other)"),
+    "families": ("family_of(plan, asks)", "is_family(asks, thing)", "partners_of(family, element)",
+                 "struck_family(family, element)", "fall_by(family, element)"),
+    "wastes": ("repeats_of(plan)", "strays_of(plan, asks)"),
+    "plantexts": ("plan_line(plan)", "read_plan(text)"),
+    "strikekinds": ("is_strike(thing)", "is_stand(thing)"),
+    "stands": ("stand_of(asks)", "can_strike(stand, strike)", "struck(stand, strike)", "after_strikes(stand, strikes)"),
+    "gains": ("gain_of(stand, strike)", "labels_of(stand)", "unlabelled(stand)"),
+    "strikechecker": ("lets_strikes(asks, thing)",),
+}
+CLASSES = {
+    ("askclasses", "Asks"): ("__init__(self, *stretches)", "told(self)", "ordered(self)", "size(self)", "wide(self)",
+                             "both(self, other)", "mirror(self, size)", "__eq__(self, other)", "__len__(self)"),
+    ("planclasses", "Plan"): ("__init__(self, size, joins, answers)", "told(self)", "grade(self, asks)",
+                              "on(self, operation, feed)", "tidy(self)", "beside(self, other)", "many(self)",
+                              "__eq__(self, other)"),
+}
+
+
+class TestInterface(unittest.TestCase):
+    def test_functions(self):
+        for name, lines in FUNCTIONS.items():
+            module = importlib.import_module(f"underthree.{name}")
+            for line in lines:
+                function = getattr(module, line.split("(")[0])
+                self.assertTrue(inspect.isfunction(function), line)
+                self.assertEqual(function.__module__, f"underthree.{name}", line)
+                self.assertEqual(function.__name__ + str(inspect.signature(function)), line)
+
+    def test_classes(self):
+        for (name, word), lines in CLASSES.items():
+            kind = getattr(importlib.import_module(f"underthree.{name}"), word)
+            self.assertEqual(kind.__module__, f"underthree.{name}")
+            for line in lines:
+                # In the class itself, not in a base class only.
+                method = vars(kind)[line.split("(")[0]]
+                self.assertEqual(method.__name__ + str(inspect.signature(method)), line)
+
+
+if __name__ == "__main__":
+    unittest.main()
