@@ -55,7 +55,8 @@ NOT_STANDS = NOT_TUPLES + (
 NOT_STRIKES = NOT_TUPLES + (
     (), ("element",), ("element", -1), ("element", True), ("element", "1"), ("element", 1, 2), ("element", (1,)),
     ("ask",), ("ask", 1), ("ask", 2, 2), ("ask", 3, 2), ("ask", -1, 2), ("ask", True, 2), ("ask", 0, True),
-    ("ask", 0, 2, 3), ("ask", (0, 2)), ("Element", 1), ("", 1), (["element"], 1), (None, 1), (1, 2), "element",
+    ("ask", 0, 2, 3), ("ask", (0, 2)), ("Ask", 0, 2), ("", 0, 2), (None, 0, 2), (["ask"], 0, 2),
+    ("Element", 1), ("", 1), (["element"], 1), (None, 1), (1, 2), "element",
 )
 
 

@@ -42,8 +42,8 @@ def clubs_of(asks):
     clubs = []
     reached = 0
     for ask in wide_asks(asks):
-        # All elements below the end reached by a club lie in asks of it, from its first begin on.
-        if len(clubs) > 0 and ask[0] < reached:
+        # All elements from the first begin of a club to the end that it has reached lie in asks of it.
+        if ask[0] < reached:
             clubs[-1].append(ask)
         else:
             clubs.append([ask])

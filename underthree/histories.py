@@ -50,7 +50,7 @@ def history_by(queue):
 
 
 def _is_queue_event(thing):
-    if not isinstance(thing, tuple) or len(thing) == 0 or not isinstance(thing[0], str):
+    if not isinstance(thing, tuple) or len(thing) == 0:
         return False
     if thing[0] == "ask":
         return len(thing) == 1

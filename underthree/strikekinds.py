@@ -5,7 +5,7 @@ from underthree.kinds import is_group, is_lot, is_number, is_rising, is_stretch
 
 def is_strike(thing):
     """Whether thing is a strike of an element or of an ask."""
-    if not isinstance(thing, tuple) or len(thing) == 0 or not isinstance(thing[0], str):
+    if not isinstance(thing, tuple) or len(thing) == 0:
         return False
     if thing[0] == "element":
         return len(thing) == 2 and is_number(thing[1])

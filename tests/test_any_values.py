@@ -1,0 +1,61 @@
+"""[12] any values as parameters: a function returns, or raises an error of the package; nothing is changed."""
+
+import importlib
+import unittest
+from itertools import product
+
+from tests.helpers import FORK, LAP, PAIR, PLAN3
+from tests.test_interface import FUNCTIONS
+from underthree.askclasses import Asks
+from underthree.errors import AskError, PaperError, TextError, UnderError
+from underthree.planclasses import Plan
+
+DEEP = ()
+for _ in range(29):
+    DEEP = (DEEP,)
+
+POOL = (
+    None, True, False, 0, 1, 2, -1, 60, "", "-", "all", "sum 3", "0-1", "a\nb", (), (0,), (0, 1), (1, 2, 3), [], [0],
+    [(0, 1)], ([],), ((), ()), (([], 1),), ("sum", 3), ("sum", [3]), (["sum"], 3), ("spans",), ("ask",), ("ask", 0, 3),
+    ("element", 1), ("element", []), (("put", 2), ("ask",)), (("put", [2]),), PAIR, FORK, ((0, 4), (1, 2)), ((0, [1]),),
+    PLAN3, LAP, (2, ((0, [1]),), ()), ((0, 1, 3), ((0, 3),)), ((0, 1), (0, 1, 2), (1, 2)), (0, ("sum", 9), (1, 1, 1)),
+    ((("ask", 0, 3), 1),), ((("element", 2), [1]),), DEEP, [DEEP], ("x" * 4000,), tuple(range(600)), list(range(600)),
+)
+TOLD = repr(POOL)
+SMALL = POOL[::3] + (PAIR, PLAN3, ("sum", 3))
+
+
+class TestAnyValues(unittest.TestCase):
+    def try_call(self, function, values):
+        try:
+            function(*values)
+        except UnderError as error:
+            self.assertIsInstance(error, (AskError, PaperError, TextError))
+
+    def tearDown(self):
+        self.assertEqual(repr(POOL), TOLD)
+
+    def test_functions(self):
+        for name, lines in FUNCTIONS.items():
+            module = importlib.import_module(f"underthree.{name}")
+            for line in lines:
+                function = getattr(module, line.split("(")[0])
+                many = line.count(",") + 1
+                pool = {1: POOL, 2: POOL, 3: SMALL, 4: SMALL[::3]}[many]
+                for values in product(pool, repeat=many):
+                    self.try_call(function, values)
+
+    def test_classes(self):
+        asks, plan = Asks(*PAIR), Plan(*PLAN3)
+        for value in POOL:
+            for function in (Asks, asks.both, asks.mirror, asks.__eq__, plan.grade, plan.beside, plan.__eq__):
+                self.try_call(function, (value,))
+        for values in product(SMALL, repeat=2):
+            self.try_call(plan.on, values)
+        for values in product(SMALL, repeat=3):
+            self.try_call(Plan, values)
+        self.assertEqual((asks.told(), plan.told()), (PAIR, PLAN3))
+
+
+if __name__ == "__main__":
+    unittest.main()
