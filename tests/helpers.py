@@ -1,6 +1,6 @@
 """What several tests need: the rows of the document, checks of errors, lists of wrong values."""
 
-from underthree.errors import InvalidPaper, InvalidText, NotUsable
+from underthree.errors import InvalidPaper, InvalidText, NotUsable, OutOfOrder
 
 PAIR = ((0, 3), (1, 4))
 FORK = ((0, 2), (1, 3), (1, 4), (1, 6), (3, 7))
@@ -32,6 +32,15 @@ NOT_ASKS = NOT_TUPLES + (
     (0, 1), ((0, 1), (0, 1)), ((1, 2), (0, 1)), ((0, 2), (0, 1)), ((0, 0),), ((1, 0),), ((-1, 1),),
     ((0, True),), ((False, 1),), ((0, 1, 2),), ([0, 1],), ((0, 1), None), ((0, 1), (1, 2), "x"), [(0, 1)],
 )
+# Rows that no queue has, each with the two asks that are told.
+CROSSED = (
+    (((0, 9), (1, 2)), (0, 9), (1, 2)),
+    (((0, 4), (1, 2), (1, 3)), (0, 4), (1, 2)),
+    (((0, 3), (1, 3), (3, 9), (4, 8)), (3, 9), (4, 8)),
+    (((0, 2), (0, 5), (1, 6), (2, 4), (3, 4)), (0, 5), (2, 4)),
+    (((0, 1), (2, 8), (3, 8), (4, 7), (5, 6)), (2, 8), (4, 7)),
+    (((1, 5), (2, 9), (3, 8), (4, 5), (4, 7)), (2, 9), (3, 8)),
+)
 NOT_OPERATIONS = NOT_TUPLES + (
     (), ("sum",), ("sum", 0), ("sum", -1), ("sum", True), ("sum", "3"), ("sum", 3, 3), ("sum", None), ("sum", (3,)),
     ("product",), ("product", 0), ("most", 1), ("least", 1), ("first", 1), ("last", 1), ("or", 1), ("brackets", 2),
@@ -45,6 +54,12 @@ NOT_PLANS = NOT_TUPLES + (
     (2, ([0, 1],), ()), (2, ((0, True),), ()), (2, ((False, 1),), ()), (2, ((0, -1),), ()), (2, (0, 1), ()),
     (2, ((0, 1), (4, 0)), ()), (2, ((0, 1),), (3,)), (2, (), (2,)), (2, (), (True,)), (2, (), (-1,)), (2, (), ((0,),)),
     (2, (), "0"), ((2,), (), ()),
+)
+NOT_CUTS = NOT_TUPLES + (
+    (0, 1, 2), ((),), ((0, 1),), ((0, 1, 2, 3),), ([0, 1, 2],), [(0, 1, 2)], ((0, 1, 1),), ((0, 0, 1),), ((1, 0, 2),),
+    ((0, 2, 1),), ((2, 1, 0),), ((-1, 0, 1),), ((False, 1, 2),), ((0, True, 2),), ((0, 1, "2"),), ((0, 1, None),), ((0, (1,), 2),),
+    ((0, 1, 2), (0, 1, 2)), ((1, 2, 3), (0, 1, 2)), ((0, 1, 3),), ((0, 2, 3),), ((0, 1, 2), (0, 1, 3)), ((0, 1, 2), None),
+    ((0, 1, 2), (0, 2, 3), (1, 2, 3)), ((0, 1, 2), (1, 2, 3), (0, 2, 4)), (("0", 1, 2),), ((0, 1, 2), (0, 2, 3), (0, 2, 3)),
 )
 NOT_STANDS = NOT_TUPLES + (
     (), ((),), ((), (), ()), [(), ()], ([], ()), ((), []), ((0, 0), ()), ((1, 0), ()), ((-1,), ()), ((True,), ()),
@@ -110,6 +125,33 @@ def check_parameters(case, function, good, bad):
                     # A thing that is only looked at has no wrong values.
                     together[later] = bad[later][0] if bad[later] else None
                 check_unusable(case, name, -1, function, *together.values())
+
+
+def check_crossed(case, function, good, bad):
+    """
+    Rows that no queue has as the parameter queue, the other ones being good.
+    Each is tried alone, with all later parameters wrong, and behind an earlier one that is wrong.
+    """
+    names = list(good)
+    place = names.index("queue")
+    for row, one, other in CROSSED:
+        alone = dict(good, queue=row)
+        fields = {"one": one, "other": other}
+        check_error(case, OutOfOrder, fields, function, *alone.values())
+        check_error(case, OutOfOrder, fields, function, **alone)
+        together = dict(alone)
+        for later in names[place + 1:]:
+            together[later] = bad[later][0]
+        check_error(case, OutOfOrder, fields, function, *together.values())
+        for earlier in names[:place]:
+            check_unusable(case, earlier, -1, function, *dict(alone, **{earlier: bad[earlier][0]}).values())
+
+
+def check_queue_parameters(case, function, good, bad):
+    """check_parameters and check_crossed, for a function with a parameter queue among others."""
+    bad = dict({"queue": NOT_ASKS}, **bad)
+    check_parameters(case, function, good, bad)
+    check_crossed(case, function, good, bad)
 
 
 def same_kind(one, other):

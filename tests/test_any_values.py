@@ -9,6 +9,8 @@ from tests.test_interface import FUNCTIONS
 from underthree.askclasses import Asks
 from underthree.errors import AskError, PaperError, TextError, UnderError
 from underthree.planclasses import Plan
+from underthree.runners import Runner
+from underthree.strikeclasses import Strikes
 
 DEEP = ()
 for _ in range(29):
@@ -19,10 +21,10 @@ POOL = (
     [(0, 1)], ([],), ((), ()), (([], 1),), ("sum", 3), ("sum", [3]), (["sum"], 3), ("spans",), ("ask",), ("ask", 0, 3),
     ("element", 1), ("element", []), (("put", 2), ("ask",)), (("put", [2]),), PAIR, FORK, ((0, 4), (1, 2)), ((0, [1]),),
     PLAN3, LAP, (2, ((0, [1]),), ()), ((0, 1, 3), ((0, 3),)), ((0, 1), (0, 1, 2), (1, 2)), (0, ("sum", 9), (1, 1, 1)),
-    ((("ask", 0, 3), 1),), ((("element", 2), [1]),), DEEP, [DEEP], ("x" * 4000,), tuple(range(600)), list(range(600)),
+    ((("ask", 0, 3), 1),), ((("element", 2), [1]),), ((1, 2, 3), (0, 1, 3), (1, 3, 4)), ((0, 1, [2]),), ("0:1:2",), DEEP, [DEEP], ("x" * 4000,), tuple(range(600)), list(range(600)),
 )
 TOLD = repr(POOL)
-SMALL = POOL[::3] + (PAIR, PLAN3, ("sum", 3))
+SMALL = POOL[::3] + (PAIR, PLAN3, ("sum", 3), ((1, 2, 3), (0, 1, 3), (1, 3, 4)))
 
 
 class TestAnyValues(unittest.TestCase):
@@ -55,6 +57,15 @@ class TestAnyValues(unittest.TestCase):
         for values in product(SMALL, repeat=3):
             self.try_call(Plan, values)
         self.assertEqual((asks.told(), plan.told()), (PAIR, PLAN3))
+
+    def test_strikes_and_runners(self):
+        strikes, live = Strikes(PAIR), Runner(((1, 2, 3), (0, 1, 3), (1, 3, 4)), PAIR, ("spans",))
+        for value in POOL:
+            for function in (Strikes, strikes.fall, strikes.over, strikes.__eq__, live.put):
+                self.try_call(function, (value,))
+        for values in product(SMALL, repeat=3):
+            self.try_call(Runner, values)
+        self.assertEqual(strikes.told(), PAIR)
 
 
 if __name__ == "__main__":

@@ -1,4 +1,4 @@
-"""The interface of stages 1 to 7: each name in its file, with its parameters, defined there."""
+"""The interface of stages 1 to 11: each name in its file, with its parameters, defined there."""
 
 import importlib
 import inspect
@@ -40,6 +40,20 @@ FUNCTIONS = {
     "stands": ("stand_of(asks)", "can_strike(stand, strike)", "struck(stand, strike)", "after_strikes(stand, strikes)"),
     "gains": ("gain_of(stand, strike)", "labels_of(stand)", "unlabelled(stand)"),
     "strikechecker": ("lets_strikes(asks, thing)",),
+    "walking": ("next_strike(stand)", "walk_of(queue)", "rules_of(queue)"),
+    "leasts": ("least_of(queue)", "element_least(queue, element)", "ask_least(queue, at)"),
+    "leastchanges": ("element_falls(queue)", "ask_falls(queue)", "worst_asks(queue)"),
+    "bounds": ("club_sum(asks)", "wide_count(asks)", "club_many(asks)", "quick_bounds(queue)", "sum_by(asks, strikes)"),
+    "excesses": ("fall_of(family, stand, strike)", "excess_rows(plan, queue)", "excess_of(plan, queue)"),
+    "striketexts": ("strike_line(strike)", "paper_line(paper)", "read_strike(text)", "read_paper(text)"),
+    "cutkinds": ("is_cuts(thing)", "lets_cuts(asks, thing)"),
+    "making": ("cuts_by(queue)",),
+    "turning": ("turning_cuts(queue)", "turning_count(queue)"),
+    "cutplans": ("plan_by(cuts, asks)", "cuts_of(plan, asks)"),
+    "brackets": ("bracket_line(cuts, stretch)", "depth_of(cuts, stretch)", "needed_cuts(cuts, asks)"),
+    "moments": ("step_cuts(cuts, place)", "step_table(cuts, size)", "held_at(cuts, asks, place)"),
+    "begins": ("asked_begins(asks, place)", "held_table(cuts, asks)"),
+    "runners": ("resumed(cuts, asks, operation, state)",),
 }
 CLASSES = {
     ("askclasses", "Asks"): ("__init__(self, *stretches)", "told(self)", "ordered(self)", "size(self)", "wide(self)",
@@ -47,6 +61,10 @@ CLASSES = {
     ("planclasses", "Plan"): ("__init__(self, size, joins, answers)", "told(self)", "grade(self, asks)",
                               "on(self, operation, feed)", "tidy(self)", "beside(self, other)", "many(self)",
                               "__eq__(self, other)"),
+    ("strikeclasses", "Strikes"): ("__init__(self, queue)", "told(self)", "least(self)", "paper(self)", "bounds(self)",
+                                   "fall(self, element)", "over(self, plan)", "__eq__(self, other)"),
+    ("runners", "Runner"): ("__init__(self, cuts, asks, operation)", "put(self, value)", "held(self)", "joins(self)",
+                            "place(self)", "state(self)"),
 }
 
 

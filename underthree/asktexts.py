@@ -1,7 +1,7 @@
 """Rows of asks and histories as lines, there and back."""
 
 from underthree.errors import InvalidText
-from underthree.figures import end_at, number_in, part_at, unmarked
+from underthree.figures import end_at, number_in, part_at, stretch_in, unmarked
 from underthree.histories import is_history
 from underthree.kinds import is_asks
 from underthree.needs import need
@@ -34,20 +34,11 @@ def read_asks(text):
         return ()
     asks = []
     for at, part in enumerate(parts):
-        ask = _ask_in(part)
+        ask = stretch_in(part)
         if ask is None or (at > 0 and ask <= asks[-1]):
             raise InvalidText(0, at)
         asks.append(ask)
     return tuple(asks)
-
-
-def _ask_in(part):
-    first, _, second = part.partition("-")
-    low = number_in(first)
-    high = number_in(second)
-    if low is None or high is None or low >= high:
-        return None
-    return (low, high)
 
 
 def read_history(text):

@@ -50,21 +50,31 @@ def _is_union(lot, bits, bits_of_lots):
 def partners_of(family, element):
     """The ascending tuple of the element's partners."""
     _need_family(family, element)
-    known = {lot: True for lot in family}
-    rests = [_without(lot, element) for lot in family if element in lot]
-    return tuple(sorted([rest for rest in rests if len(rest) == 1 or rest in known]))
+    return tuple(sorted(partners_in(family, element)))
 
 
 def struck_family(family, element):
     """The lots without the element that have two or more elements left."""
     _need_family(family, element)
-    rests = [_without(lot, element) for lot in family]
-    return tuple(sorted(set([rest for rest in rests if len(rest) >= 2])))
+    return lots_without(family, element)
 
 
 def fall_by(family, element):
     """How many partners the element has."""
     return len(partners_of(family, element))
+
+
+def partners_in(family, element):
+    """The list of the element's partners; nothing is checked."""
+    known = {lot: True for lot in family}
+    rests = [_without(lot, element) for lot in family if element in lot]
+    return [rest for rest in rests if len(rest) == 1 or rest in known]
+
+
+def lots_without(family, element):
+    """The family with the element struck; nothing is checked."""
+    rests = [_without(lot, element) for lot in family]
+    return tuple(sorted(set([rest for rest in rests if len(rest) >= 2])))
 
 
 def _need_family(family, element):

@@ -1,4 +1,4 @@
-"""What the parts of a line tell: integers in figures, and marks behind them."""
+"""What the parts of a line tell: integers in figures, stretches, and marks behind them."""
 
 from underthree.errors import InvalidText
 
@@ -20,6 +20,16 @@ def integer_in(part):
     if number is None or number == 0:
         return None
     return -number
+
+
+def stretch_in(part):
+    """The stretch that the part tells, its two numbers with - between; else None."""
+    first, _, second = part.partition("-")
+    low = number_in(first)
+    high = number_in(second)
+    if low is None or high is None or low >= high:
+        return None
+    return (low, high)
 
 
 def part_at(parts, at):

@@ -34,5 +34,22 @@ def labels_of(stand):
 
 def unlabelled(stand):
     """The lot of the places left within wide asks at which none begins or ends."""
-    places = [place for place, begins, ends in labels_of(stand) if begins == 0 and ends == 0]
-    return tuple([place for place in places if any([low < place < high for low, high in stand[1]])])
+    need(is_stand(stand), "stand")
+    return tuple(free_places(stand))
+
+
+def free_places(stand):
+    """The list of the places left within wide asks at which none begins or ends; nothing is checked."""
+    left, asks = stand
+    ends = {place: True for ask in asks for place in ask}
+    places = []
+    at = 0
+    reached = 0
+    for place in left:
+        # The asks ascend, so those that begin ahead of a place are known when it is its turn.
+        while at < len(asks) and asks[at][0] < place:
+            reached = max(reached, asks[at][1])
+            at += 1
+        if place < reached and place not in ends:
+            places.append(place)
+    return places

@@ -13,8 +13,13 @@ def need(fit, word):
 def need_queue(queue):
     """Raise the error of a parameter called queue unless it is a queue's row."""
     need(is_asks(queue), "queue")
-    if not is_queue(queue):
-        one, other = crossed_asks(queue)
+    need_order(queue)
+
+
+def need_order(asks):
+    """Raise OutOfOrder unless the row of asks is a queue's row."""
+    if not is_queue(asks):
+        one, other = crossed_asks(asks)
         raise OutOfOrder(one, other)
 
 

@@ -29,12 +29,18 @@ def struck(stand, strike):
 def after_strikes(stand, strikes):
     """The stand that the strikes leave, struck one after the other."""
     need(is_stand(stand), "stand")
+    return stands_along(stand, strikes)[-1]
+
+
+def stands_along(stand, strikes):
+    """The list of the stand and of those that the strikes leave; only the strikes are checked."""
     need(isinstance(strikes, tuple), "strikes")
+    stands = [stand]
     for at, strike in enumerate(strikes):
-        if not is_strike(strike) or not is_open(stand, strike):
+        if not is_strike(strike) or not is_open(stands[-1], strike):
             raise NotUsable("strikes", at)
-        stand = left_by(stand, strike)
-    return stand
+        stands.append(left_by(stands[-1], strike))
+    return stands
 
 
 def need_strike(stand, strike):
