@@ -4,10 +4,11 @@ import importlib
 import unittest
 from itertools import product
 
-from tests.helpers import FORK, LAP, PAIR, PLAN3
+from tests.helpers import FAN5, FORK, HEX, LAP, PAIR, PLAN3
 from tests.test_interface import FUNCTIONS
 from underthree.askclasses import Asks
-from underthree.errors import AskError, PaperError, TextError, UnderError
+from underthree.cutclasses import Cuts
+from underthree.errors import AskError, CuttingError, PaperError, TextError, UnderError
 from underthree.planclasses import Plan
 from underthree.runners import Runner
 from underthree.strikeclasses import Strikes
@@ -21,10 +22,11 @@ POOL = (
     [(0, 1)], ([],), ((), ()), (([], 1),), ("sum", 3), ("sum", [3]), (["sum"], 3), ("spans",), ("ask",), ("ask", 0, 3),
     ("element", 1), ("element", []), (("put", 2), ("ask",)), (("put", [2]),), PAIR, FORK, ((0, 4), (1, 2)), ((0, [1]),),
     PLAN3, LAP, (2, ((0, [1]),), ()), ((0, 1, 3), ((0, 3),)), ((0, 1), (0, 1, 2), (1, 2)), (0, ("sum", 9), (1, 1, 1)),
-    ((("ask", 0, 3), 1),), ((("element", 2), [1]),), ((1, 2, 3), (0, 1, 3), (1, 3, 4)), ((0, 1, [2]),), ("0:1:2",), DEEP, [DEEP], ("x" * 4000,), tuple(range(600)), list(range(600)),
+    ((("ask", 0, 3), 1),), ((("element", 2), [1]),), ((1, 2, 3), (0, 1, 3), (1, 3, 4)), ((0, 1, [2]),), ("0:1:2",), FAN5, HEX, (2, ()), (6, ((0, [2]),)),
+    (1, 2, 2, 1, 3), (1, 2, [2]), DEEP, [DEEP], ("x" * 4000,), tuple(range(100)), list(range(600)),
 )
 TOLD = repr(POOL)
-SMALL = POOL[::3] + (PAIR, PLAN3, ("sum", 3), ((1, 2, 3), (0, 1, 3), (1, 3, 4)))
+SMALL = POOL[::3] + (PAIR, PLAN3, ("sum", 3), ((1, 2, 3), (0, 1, 3), (1, 3, 4)), HEX)
 
 
 class TestAnyValues(unittest.TestCase):
@@ -32,7 +34,7 @@ class TestAnyValues(unittest.TestCase):
         try:
             function(*values)
         except UnderError as error:
-            self.assertIsInstance(error, (AskError, PaperError, TextError))
+            self.assertIsInstance(error, (AskError, CuttingError, PaperError, TextError))
 
     def tearDown(self):
         self.assertEqual(repr(POOL), TOLD)
@@ -66,6 +68,13 @@ class TestAnyValues(unittest.TestCase):
         for values in product(SMALL, repeat=3):
             self.try_call(Runner, values)
         self.assertEqual(strikes.told(), PAIR)
+
+    def test_cuts(self):
+        cuts = Cuts(PAIR)
+        for value in POOL:
+            for function in (Cuts, cuts.held, cuts.bracket, cuts.runner, cuts.__eq__):
+                self.try_call(function, (value,))
+        self.assertEqual(cuts.told(), ((1, 2, 3), (0, 1, 3), (1, 3, 4)))
 
 
 if __name__ == "__main__":

@@ -205,7 +205,8 @@ class TestMoments(unittest.TestCase):
                 check_same(self, held_at(cuts, asks, place), due_held(cuts, asks, place))
 
     def test_asked_begins(self):
-        for row in [row for _, row in pairs_small()[::2]] + [((0, 4), (1, 2), (1, 3)), ((0, 9), (2, 3), (2, 9))]:
+        for row in [row for _, row in pairs_small()[::2]] + [((0, 4), (1, 2), (1, 3)), ((0, 9), (2, 3), (2, 9)),
+                                                             ((1, 20), (8, 19), (16, 18), (17, 19))]:
             last = max([high for _, high in row], default=0)
             for place in list(range(last + 2)) + [HUGE]:
                 due = tuple(sorted({low for low, high in row if low < place and high > place}))

@@ -1,4 +1,4 @@
-"""The interface of stages 1 to 11: each name in its file, with its parameters, defined there."""
+"""The interface of stages 1 to 15, [61] left out: each name in its file, with its parameters, defined there."""
 
 import importlib
 import inspect
@@ -54,6 +54,24 @@ FUNCTIONS = {
     "moments": ("step_cuts(cuts, place)", "step_table(cuts, size)", "held_at(cuts, asks, place)"),
     "begins": ("asked_begins(asks, place)", "held_table(cuts, asks)"),
     "runners": ("resumed(cuts, asks, operation, state)",),
+    "cutchanges": ("mirrored_cuts(cuts, size)", "moved_cuts(cuts, many)", "merged_cuts(cuts, other)",
+                   "stretched_cuts(cuts, counts, asks)"),
+    "cuttexts": ("cuts_line(cuts)", "read_cuts(text)"),
+    "cuttingkinds": ("is_cutting(thing)", "lets_cutting(thing)"),
+    "catalans": ("catalan(many)", "choose(many, few)"),
+    "cutnumbers": ("cutting_count(corners)", "cutting_at(corners, number)", "number_of(cutting)"),
+    "neighbours": ("neighbours_of(cutting, corner)", "triangles_of(cutting)", "thirds_of(cutting, one, other)"),
+    "cornerprices": ("prices_of(cutting)", "chords_at(cutting, corner)", "cutting_by(prices)", "has_cutting(prices)"),
+    "earpapers": ("ear_paper(cutting)", "lets_ears(prices, thing)"),
+    "shapes": ("fan(corners, corner)", "zigzag(corners, corner)", "zigzag_back(corners, corner)",
+               "turned_cutting(cutting, by)", "mirrored_cutting(cutting)"),
+    "turns": ("least_turn(cutting)", "turn_order(cutting)", "turned_count(corners, by)"),
+    "quiets": ("ears_of(cutting)", "can_quiet(corners, quiet)", "quiet_cutting(corners, quiet)", "worst_price(cutting)",
+               "level_count(corners)", "level_cuttings(corners)"),
+    "cheapest": ("cutting_cost(cutting, costs)", "least_cost(costs)", "cheapest_cutting(costs)"),
+    "chordsums": ("first_chords(cutting, many)", "first_joins(cutting, many)", "answer_price(cutting, answer)",
+                  "step_joins(cutting, step)", "least_first(width, many)", "over_least(cutting, many)",
+                  "is_least_always(cutting)"),
 }
 CLASSES = {
     ("askclasses", "Asks"): ("__init__(self, *stretches)", "told(self)", "ordered(self)", "size(self)", "wide(self)",
@@ -65,6 +83,8 @@ CLASSES = {
                                    "fall(self, element)", "over(self, plan)", "__eq__(self, other)"),
     ("runners", "Runner"): ("__init__(self, cuts, asks, operation)", "put(self, value)", "held(self)", "joins(self)",
                             "place(self)", "state(self)"),
+    ("cutclasses", "Cuts"): ("__init__(self, queue)", "told(self)", "plan(self)", "many(self)", "held(self, place)",
+                             "bracket(self, stretch)", "runner(self, operation)", "__eq__(self, other)"),
 }
 
 

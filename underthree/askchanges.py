@@ -15,15 +15,22 @@ def mirrored(asks, size):
 def stretched(asks, counts):
     """The row with each element made as many elements as its count tells."""
     need(is_asks(asks), "asks")
-    need(_are_counts(counts) and len(counts) >= longest_end(asks), "counts")
-    sums = [0]
-    for count in counts:
-        sums.append(sums[-1] + count)
+    need(are_counts(counts) and len(counts) >= longest_end(asks), "counts")
+    sums = sums_of(counts)
     return tuple([(sums[low], sums[high]) for low, high in asks])
 
 
-def _are_counts(thing):
+def are_counts(thing):
+    """Whether thing is a tuple of integers of at least 1."""
     return isinstance(thing, tuple) and all([is_positive(count) for count in thing])
+
+
+def sums_of(counts):
+    """The list of what the first counts come to, from none of them to all."""
+    sums = [0]
+    for count in counts:
+        sums.append(sums[-1] + count)
+    return sums
 
 
 def merged(asks, other):

@@ -2,8 +2,7 @@
 
 from underthree.askrows import clubs_of, covered, wide_asks
 from underthree.gains import gain_by
-from underthree.kinds import is_asks
-from underthree.needs import need, need_queue
+from underthree.needs import need_queue
 from underthree.stands import stand_of, stands_along
 
 
@@ -33,6 +32,5 @@ def quick_bounds(queue):
 
 def sum_by(asks, strikes):
     """The sum of the gains of the strikes, struck one after the other."""
-    need(is_asks(asks), "asks")
     stands = stands_along(stand_of(asks), strikes)
     return sum([gain_by(stand, strike) for stand, strike in zip(stands, strikes)])

@@ -3,10 +3,8 @@
 from underthree.askrows import longest_end
 from underthree.cutkinds import in_sequence, last_end, need_made
 from underthree.grades import right_all
-from underthree.kinds import is_asks
 from underthree.needs import need
 from underthree.planchanges import used_joins
-from underthree.plankinds import is_plan
 from underthree.planvalues import spans_of
 
 
@@ -24,8 +22,7 @@ def plan_by(cuts, asks):
 
 def cuts_of(plan, asks):
     """How a plan that is right for all operations makes the stretches of the joins it uses."""
-    need(is_plan(plan), "plan")
-    need(is_asks(asks) and right_all(plan, asks), "asks")
+    need(right_all(plan, asks), "asks")
     size, joins, answers = plan
     spans = spans_of(plan)
     made = {}

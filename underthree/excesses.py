@@ -20,7 +20,9 @@ def fall_of(family, stand, strike):
 
 def excess_rows(plan, queue):
     """The pairs of each strike of the walk and of its fall less its gain."""
-    _need_right(plan, queue)
+    need(is_plan(plan), "plan")
+    need_queue(queue)
+    need(right_same(plan, queue), "queue")
     family = family_of(plan, queue)
     rows = []
     for stand, rule, strike in steps_from(stand_of(queue)):
@@ -31,15 +33,8 @@ def excess_rows(plan, queue):
 
 def excess_of(plan, queue):
     """How many repeats and how many strays the plan has, and what its falls are above the gains."""
-    _need_right(plan, queue)
     above = sum([row[1] for row in excess_rows(plan, queue)])
     return (len(repeats_of(plan)), len(strays_of(plan, queue)), above)
-
-
-def _need_right(plan, queue):
-    need(is_plan(plan), "plan")
-    need_queue(queue)
-    need(right_same(plan, queue), "queue")
 
 
 def _fall(family, stand, strike):

@@ -70,8 +70,9 @@ def _strike_of_fork(left, fork):
 
 def _strike_of_first(left, asks):
     # In a queue's row ends never fall, and here no two asks begin at one place: the first one ends first.
+    # All places within an ask that stands alone are free, so that there is a second one.
     end = asks[0][1]
-    if len(asks) > 1 and asks[1][1] == end:
+    if asks[1][1] == end:
         return ("ask",) + asks[0]
     return ("element", _place_ahead(left, end))
 
