@@ -5,12 +5,16 @@ import unittest
 from itertools import product
 
 from tests.helpers import FAN5, FORK, HEX, LAP, PAIR, PLAN3
+from tests.programs import DUO, LEAN
 from tests.test_interface import FUNCTIONS
 from underthree.askclasses import Asks
 from underthree.cutclasses import Cuts
+from underthree.cuttingclasses import Cutting
 from underthree.errors import AskError, CuttingError, PaperError, TextError, UnderError
 from underthree.planclasses import Plan
+from underthree.programclasses import Program
 from underthree.runners import Runner
+from underthree.steadystores import Steady
 from underthree.strikeclasses import Strikes
 
 DEEP = ()
@@ -23,10 +27,11 @@ POOL = (
     ("element", 1), ("element", []), (("put", 2), ("ask",)), (("put", [2]),), PAIR, FORK, ((0, 4), (1, 2)), ((0, [1]),),
     PLAN3, LAP, (2, ((0, [1]),), ()), ((0, 1, 3), ((0, 3),)), ((0, 1), (0, 1, 2), (1, 2)), (0, ("sum", 9), (1, 1, 1)),
     ((("ask", 0, 3), 1),), ((("element", 2), [1]),), ((1, 2, 3), (0, 1, 3), (1, 3, 4)), ((0, 1, [2]),), ("0:1:2",), FAN5, HEX, (2, ()), (6, ((0, [2]),)),
+    LEAN, DUO, (2, (([], 0),)), (2, ((([1, 0],), 0),)), (2, ((((1, [0]),), 0),)), (2, (((), [0]),)), "2; -: -", "3; -",
     (1, 2, 2, 1, 3), (1, 2, [2]), DEEP, [DEEP], ("x" * 4000,), tuple(range(100)), list(range(600)),
 )
 TOLD = repr(POOL)
-SMALL = POOL[::3] + (PAIR, PLAN3, ("sum", 3), ((1, 2, 3), (0, 1, 3), (1, 3, 4)), HEX)
+SMALL = POOL[::3] + (PAIR, PLAN3, ("sum", 3), ((1, 2, 3), (0, 1, 3), (1, 3, 4)), HEX, LEAN)
 
 
 class TestAnyValues(unittest.TestCase):
@@ -68,6 +73,16 @@ class TestAnyValues(unittest.TestCase):
         for values in product(SMALL, repeat=3):
             self.try_call(Runner, values)
         self.assertEqual(strikes.told(), PAIR)
+
+    def test_cuttings_and_programs(self):
+        cutting, program, store = Cutting(6, *HEX[1]), Program(LEAN[0], *LEAN[1]), Steady(HEX, ("spans",))
+        for value in POOL:
+            for function in (Cutting, cutting.turn, cutting.first, cutting.__eq__, Program, program.mean, program.rows, program.begun, program.__eq__, store.put):
+                self.try_call(function, (value,))
+        for values in product(POOL, repeat=2):
+            for function in (Cutting, Program, Steady, program.run):
+                self.try_call(function, values)
+        self.assertEqual((cutting.told(), program.told()), (HEX, LEAN))
 
     def test_cuts(self):
         cuts = Cuts(PAIR)

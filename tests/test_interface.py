@@ -1,4 +1,4 @@
-"""The interface of stages 1 to 15, [61] left out: each name in its file, with its parameters, defined there."""
+"""The interface of stages 1 to 19: each name in its file, with its parameters, defined there."""
 
 import importlib
 import inspect
@@ -72,6 +72,22 @@ FUNCTIONS = {
     "chordsums": ("first_chords(cutting, many)", "first_joins(cutting, many)", "answer_price(cutting, answer)",
                   "step_joins(cutting, step)", "least_first(width, many)", "over_least(cutting, many)",
                   "is_least_always(cutting)"),
+    "cuttinglines": ("cutting_line(cutting)", "read_cutting(text)"),
+    "programkinds": ("is_program(thing)", "lets_program(thing)"),
+    "programruns": ("run_program(program, operation, feed)", "join_rows(program, many)", "joins_done(program, many)",
+                    "begun_at(program, phase)"),
+    "programtexts": ("program_line(program)", "read_program(text)"),
+    "keepers": ("cutting_program(cutting)",),
+    "readies": ("shifted_program(cutting)", "ready_program(cutting)", "least_phases(width)", "has_phases(width, phases)"),
+    "hopkeepers": ("hop_program(width, hop, cutting)",),
+    "means": ("blocks_of(width, hop)", "program_mean(program, hop)", "least_mean(width, hop)", "first_least(width, hop, many)",
+              "hop_first(width, hop, many)", "ready_mean(width)", "ready_first(width, many)"),
+    "ringlists": ("ring_reaches(width, size)", "ring_ways(width, size)", "lets_ring_cuts(width, size, thing)",
+                  "ring_cuts(cutting, size)", "ring_run(cutting, operation, feed)"),
+    "steadystores": ("steady_from(cutting, operation, state)",),
+    "verdicts": ("round_of(program, hop)", "told_spans(program, many)", "right_forever(program, width, hop)",
+                 "wrong_step(program, width, hop)", "wrong_told(program, width, hop)", "lets_wrong(program, width, hop, thing)"),
+    "traces": ("trace_of(program, step)", "trace_depth(program, step)"),
 }
 CLASSES = {
     ("askclasses", "Asks"): ("__init__(self, *stretches)", "told(self)", "ordered(self)", "size(self)", "wide(self)",
@@ -85,6 +101,12 @@ CLASSES = {
                             "place(self)", "state(self)"),
     ("cutclasses", "Cuts"): ("__init__(self, queue)", "told(self)", "plan(self)", "many(self)", "held(self, place)",
                              "bracket(self, stretch)", "runner(self, operation)", "__eq__(self, other)"),
+    ("cuttingclasses", "Cutting"): ("__init__(self, corners, *chords)", "told(self)", "prices(self)", "number(self)",
+                                    "turn(self, by)", "mirror(self)", "worst(self)", "first(self, many)", "__eq__(self, other)"),
+    ("steadystores", "Steady"): ("__init__(self, cutting, operation)", "put(self, value)", "held(self)", "joins(self)",
+                                 "place(self)", "state(self)"),
+    ("programclasses", "Program"): ("__init__(self, registers, *phases)", "told(self)", "run(self, operation, feed)",
+                                    "mean(self, hop)", "rows(self, many)", "begun(self, phase)", "__eq__(self, other)"),
 }
 
 

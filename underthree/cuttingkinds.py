@@ -30,7 +30,7 @@ def cutting_fault(thing):
     if not isinstance(chords, tuple):
         return ("chords", -1)
     for at, chord in enumerate(chords):
-        word = _chord_fault(corners, chords[:at], chord)
+        word = chord_fault(corners, chords[:at], chord)
         if word is not None:
             return (word, at)
     if len(chords) < corners - 3:
@@ -48,7 +48,8 @@ def are_beside(corners, one, other):
     return (other - one) % corners in (1, corners - 1)
 
 
-def _chord_fault(corners, earlier, chord):
+def chord_fault(corners, earlier, chord):
+    """None for a chord behind the earlier ones that crosses none of them, else the word of its fault."""
     if not is_stretch(chord) or chord[1] >= corners or are_beside(corners, chord[0], chord[1]):
         return "chord"
     if len(earlier) > 0 and not earlier[-1] < chord:
