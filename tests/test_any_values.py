@@ -10,7 +10,9 @@ from tests.test_interface import FUNCTIONS
 from underthree.askclasses import Asks
 from underthree.cutclasses import Cuts
 from underthree.cuttingclasses import Cutting
-from underthree.errors import AskError, CuttingError, PaperError, TextError, UnderError
+from underthree.errors import AskError, CuttingError, LiveError, PaperError, TextError, UnderError
+from underthree.house import House
+from underthree.judgeclasses import Judge
 from underthree.planclasses import Plan
 from underthree.programclasses import Program
 from underthree.runners import Runner
@@ -28,6 +30,8 @@ POOL = (
     PLAN3, LAP, (2, ((0, [1]),), ()), ((0, 1, 3), ((0, 3),)), ((0, 1), (0, 1, 2), (1, 2)), (0, ("sum", 9), (1, 1, 1)),
     ((("ask", 0, 3), 1),), ((("element", 2), [1]),), ((1, 2, 3), (0, 1, 3), (1, 3, 4)), ((0, 1, [2]),), ("0:1:2",), FAN5, HEX, (2, ()), (6, ((0, [2]),)),
     LEAN, DUO, (2, (([], 0),)), (2, ((([1, 0],), 0),)), (2, ((((1, [0]),), 0),)), (2, (((), [0]),)), "2; -: -", "3; -",
+    "a", "crash\nask a", ("free", 2), ("steady", HEX), ("told", PAIR), ("steady", [3]), (["free"], 2), (0, 0, None, ()), (0, None, None, ()), ("crash",),
+    ("put", "a", [1]), ("put", ["a"], 1), (("open", "a", ("free", 2)), ("put", "a", 1)), (("put", "a", []),), (("a", ("free", 2), (0, 0, None, ())),),
     (1, 2, 2, 1, 3), (1, 2, [2]), DEEP, [DEEP], ("x" * 4000,), tuple(range(100)), list(range(600)),
 )
 TOLD = repr(POOL)
@@ -39,7 +43,7 @@ class TestAnyValues(unittest.TestCase):
         try:
             function(*values)
         except UnderError as error:
-            self.assertIsInstance(error, (AskError, CuttingError, PaperError, TextError))
+            self.assertIsInstance(error, (AskError, CuttingError, LiveError, PaperError, TextError))
 
     def tearDown(self):
         self.assertEqual(repr(POOL), TOLD)
@@ -83,6 +87,40 @@ class TestAnyValues(unittest.TestCase):
             for function in (Cutting, Program, Steady, program.run):
                 self.try_call(function, values)
         self.assertEqual((cutting.told(), program.told()), (HEX, LEAN))
+
+    def house(self):
+        house = House(("spans",))
+        house.do_all((("open", "a", ("free", 2)), ("open", "t", ("told", PAIR)), ("put", "a", None)))
+        return house
+
+    def test_judges_and_houses(self):
+        judge, house = Judge(DUO, 2, 1), self.house()
+        asks = (house.keeper_of, house.state_of, house.held_by, house.joins_by, house.asked_by, house.least_by,
+                house.over_by, house.bounds_by, house.barred, house.tried, house.__eq__)
+        for value in POOL:
+            for function in asks + (judge.plan, judge.__eq__, House):
+                self.try_call(function, (value,))
+        for values in product(SMALL, repeat=3):
+            self.try_call(Judge, values)
+        self.assertEqual((judge.told(), house), ((DUO, 2, 1), self.house()))
+
+    def test_events_of_houses(self):
+        for value in POOL:
+            for word in ("go", "drop", "ask", "close", "undo", "do_all"):
+                self.check_event(word, (value,))
+        for values in product(SMALL, repeat=2):
+            for word in ("do_all", "open_key", "put", "set_width"):
+                self.check_event(word, values)
+
+    def check_event(self, word, values):
+        house = self.house()
+        function = getattr(house, word)
+        try:
+            function(*values)
+        except UnderError as error:
+            self.assertIsInstance(error, (AskError, LiveError))
+            # What is refused changes nothing.
+            self.assertEqual(house, self.house())
 
     def test_cuts(self):
         cuts = Cuts(PAIR)

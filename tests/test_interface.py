@@ -1,4 +1,4 @@
-"""The interface of stages 1 to 19: each name in its file, with its parameters, defined there."""
+"""The interface of all stages: each name in its file, with its parameters, defined there."""
 
 import importlib
 import inspect
@@ -88,6 +88,21 @@ FUNCTIONS = {
     "verdicts": ("round_of(program, hop)", "told_spans(program, many)", "right_forever(program, width, hop)",
                  "wrong_step(program, width, hop)", "wrong_told(program, width, hop)", "lets_wrong(program, width, hop, thing)"),
     "traces": ("trace_of(program, step)", "trace_depth(program, step)"),
+    "uses": ("uses_of(program, width, hop)", "waste_of(program, width, hop)", "made_late(program, width, hop)"),
+    "bests": ("mean_over(program, width, hop)", "is_best(program, width)", "cutting_of(program, width)"),
+    "helds": ("alive_behind(program, width, hop, step)", "held_row(program, width, hop)", "held_need(width, hop, step)"),
+    "delays": ("delays_of(program, width, hop)", "worst_delay(program, width, hop)", "rows_row(program)", "worst_rows(program)"),
+    "unrolled": ("plan_of(program, width, hop, many)",),
+    "overs": ("first_over(program, width, hop, many)", "over_parts(program, width, hop, many)"),
+    "liveevents": ("is_key(thing)", "is_keeper(thing)", "is_event(thing)", "is_log(thing)"),
+    "keystates": ("key_begun(keeper)", "key_full(keeper, state)", "key_put(keeper, state, operation, value)"),
+    "freekeys": ("free_put(keeper, state, operation, value)", "free_drop(state)", "free_ask(state, operation)",
+                 "free_width(state, width)"),
+    "reasons": ("reason_of(operation, rows, event)",),
+    "replaying": ("replayed(operation, log)", "cut_log(log, many)", "crashed_log(log, at)", "answers_by(operation, log)",
+                  "joins_along(operation, log, key)"),
+    "eventtexts": ("event_line(operation, event)", "log_text(operation, log)", "read_event(operation, text)",
+                   "read_log(operation, text)", "desk_line(live, text)"),
 }
 CLASSES = {
     ("askclasses", "Asks"): ("__init__(self, *stretches)", "told(self)", "ordered(self)", "size(self)", "wide(self)",
@@ -107,6 +122,15 @@ CLASSES = {
                                  "place(self)", "state(self)"),
     ("programclasses", "Program"): ("__init__(self, registers, *phases)", "told(self)", "run(self, operation, feed)",
                                     "mean(self, hop)", "rows(self, many)", "begun(self, phase)", "__eq__(self, other)"),
+    ("judgeclasses", "Judge"): ("__init__(self, program, width, hop)", "right(self)", "wrong(self)", "mean(self)", "over(self)",
+                                "best(self)", "cutting(self)", "plan(self, many)", "told(self)", "__eq__(self, other)"),
+    ("houseasks", "HouseAsks"): ("__init__(self, operation)", "open_keys(self)", "keeper_of(self, key)", "state_of(self, key)",
+                                 "held_by(self, key)", "joins_by(self, key)", "asked_by(self, key)", "least_by(self, key)",
+                                 "over_by(self, key)", "bounds_by(self, key)", "report(self)"),
+    ("house", "House"): ("__init__(self, operation)", "open_key(self, key, keeper)", "put(self, key, value)", "drop(self, key)",
+                         "ask(self, key)", "set_width(self, key, width)", "close(self, key)", "crash(self)", "go(self, event)",
+                         "barred(self, event)", "do_all(self, events, keep=False)", "undo(self, steps=1)", "tried(self, events)",
+                         "log(self)", "__eq__(self, other)"),
 }
 
 
@@ -128,6 +152,12 @@ class TestInterface(unittest.TestCase):
                 # In the class itself, not in a base class only.
                 method = vars(kind)[line.split("(")[0]]
                 self.assertEqual(method.__name__ + str(inspect.signature(method)), line)
+
+    def test_bases(self):
+        house = importlib.import_module("underthree.house").House
+        asks = importlib.import_module("underthree.houseasks").HouseAsks
+        self.assertEqual(house.__bases__, (asks,))
+        self.assertEqual(asks.__bases__, (object,))
 
 
 if __name__ == "__main__":

@@ -11,13 +11,13 @@ FILES = {path.stem: path for path in sorted(PACKAGE.rglob("*.py"))}
 TREES = {name: ast.parse(path.read_text("ascii")) for name, path in FILES.items()}
 
 BUILTINS = {"len", "range", "enumerate", "zip", "min", "max", "sum", "abs", "sorted", "reversed", "int", "str", "bool", "list",
-            "tuple", "dict", "set", "isinstance", "ord", "repr", "any", "all", "divmod", "ValueError", "KeyError", "map"}
+            "tuple", "dict", "set", "isinstance", "ord", "repr", "any", "all", "divmod", "ValueError", "KeyError", "map", "super"}
 METHODS = set("""append clear copy count endswith extend find get index insert isalnum isalpha isdigit islower isspace isupper
 items join keys ljust lower lstrip partition pop remove replace reverse rfind rjust rpartition rsplit rstrip setdefault split
 splitlines startswith strip update upper values zfill bit_length isascii add discard""".split())
 LIBRARY = {"math": {"gcd", "lcm", "isqrt", "comb", "perm", "factorial"}}
 BARRED_NODES = (
-    ast.Lambda, ast.GeneratorExp, ast.SetComp, ast.Yield, ast.YieldFrom, ast.Global, ast.AsyncFunctionDef, ast.Await, ast.Try,
+    ast.Lambda, ast.GeneratorExp, ast.SetComp, ast.Yield, ast.YieldFrom, ast.Global, ast.AsyncFunctionDef, ast.Await,
     ast.With, ast.NamedExpr, ast.Match, ast.Delete, ast.AnnAssign, ast.Div, ast.Import,
 )
 BARRED_NAMES = {"register", "mro", "elements", "open", "input", "law", "version_info", "with_traceback", "add_note",
@@ -182,6 +182,26 @@ class TestLanguage(unittest.TestCase):
                     parent = parents[node]
                     self.assertTrue(isinstance(parent, ast.Call) and parent.func.id in ("sorted", "len"), name)
                 self.assertNotIsInstance(node, ast.Set, name)
+
+    def test_own_errors_alone_are_caught(self):
+        own = {name for name in top_names(TREES["errors"])}
+        for name, tree in TREES.items():
+            for node in ast.walk(tree):
+                if isinstance(node, ast.Try):
+                    self.assertEqual((len(node.handlers), node.orelse, node.finalbody), (1, [], []), name)
+                    handler = node.handlers[0]
+                    self.assertIn(handler.type.id, own, name)
+                    # The error is named, and of it its own fields are read alone.
+                    reads = [one for one in ast.walk(handler) if isinstance(one, ast.Name) and one.id == handler.name]
+                    fields = [one.value for one in ast.walk(handler) if isinstance(one, ast.Attribute)]
+                    self.assertEqual(reads, fields, name)
+
+    def test_super_is_called_in_an_init(self):
+        for name, tree in TREES.items():
+            for node in ast.walk(tree):
+                if isinstance(node, ast.FunctionDef) and node.name != "__init__":
+                    words = [one.id for one in ast.walk(node) if isinstance(one, ast.Name)]
+                    self.assertNotIn("super", words, name)
 
     def test_errors_are_made_on_the_spot(self):
         for name, tree in TREES.items():

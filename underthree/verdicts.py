@@ -54,6 +54,16 @@ def lets_wrong(program, width, hop, thing):
     return (thing - width, thing)
 
 
+def need_right(program, width, hop):
+    """Raise NotUsable unless the program is right for ever for (width, hop)."""
+    need(right_forever(program, width, hop), "program")
+
+
+def late_round(program, width, hop):
+    """The first step of the late round, and the one behind it; nothing is checked."""
+    return (2 * width, 2 * width + lcm(hop, len(program[1])))
+
+
 def _need_asks(program, width, hop):
     need(is_program(program), "program")
     need(is_positive(width), "width")
