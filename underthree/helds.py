@@ -25,8 +25,8 @@ def held_need(width, hop, step):
     need(is_positive(hop), "hop")
     need(is_number(step), "step")
     first = max(0, (step - width) // hop + 1)
-    last = (step - 1) // hop
-    return max(0, last - first + 1)
+    behind = (step - 1) // hop + 1
+    return behind - first
 
 
 def _alive_lots(program, width, hop, first, behind):

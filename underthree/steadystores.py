@@ -5,7 +5,7 @@ from underthree.kinds import is_group, is_number, is_stretch
 from underthree.needs import need
 from underthree.neighbours import neighbour_lots
 from underthree.operations import fits, is_operation
-from underthree.windows import fronts_at, held_in, made_from, put_in
+from underthree.windows import held_in, made_from, put_in
 
 
 def steady_from(cutting, operation, state):
@@ -77,7 +77,8 @@ def _stretches_at(cutting, place):
     corners = cutting[0]
     lots = neighbour_lots(cutting)
     stretches = []
-    for begin in fronts_at(_window_of(cutting), place):
+    # The width is one less than there are corners; an ask that ends at the place is told and gone.
+    for begin in range(max(0, place - corners + 2), place):
         ends = [end for end in range(begin + 1, place + 1) if end % corners in lots[begin % corners]]
         stretches.append((begin, ends[-1]))
     return stretches

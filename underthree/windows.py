@@ -10,13 +10,6 @@ from underthree.chains import chain_of
 from underthree.operations import joined
 
 
-def fronts_at(window, place):
-    """The list of the begins of asks, answered or not, that the place is strictly within."""
-    width, hop, cutting = window
-    first = max(0, (place - width) // hop + 1)
-    return [at * hop for at in range(first, (place - 1) // hop + 1)]
-
-
 def put_in(window, operation, place, made, value):
     """Join what the element at this place completes: the pairs of asks and answers, and how many joins were done."""
     width, hop, cutting = window
@@ -33,7 +26,8 @@ def put_in(window, operation, place, made, value):
         joins += _chained(window, operation, block + 1, made)
         if width == blocks * hop and low + hop >= 0:
             answers.append(((low + hop, place + 1), made[low + hop][1]))
-    for begin in [begin for begin in made if begin + width <= place + 1]:
+    gone = [begin for begin in made if begin + width <= place + 1]
+    for begin in gone:
         made.pop(begin)
     return (tuple(answers), joins)
 
